@@ -1,0 +1,1 @@
+"""Ackbits: letters whose coming is told by a number and some bits."""
