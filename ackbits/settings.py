@@ -1,21 +1,32 @@
-"""What a setting, a mark and a telling may be."""
+"""What a setting, a room, a wait, a mark and a telling may be."""
 
 from ackbits.errors import BadBits, BadMark, BadSetting
 
-# Word, least and greatest of each number of a setting, in its order.
-BOUNDS = (
-    ("marks", 2, 64),
-    ("wide", 0, 16),
-    ("late", 0, 8),
-    ("ahead", 1, 16),
-)
+# Least and greatest of each number that settings and loads are made of.
+BOUNDS = {
+    "marks": (2, 64),
+    "wide": (0, 16),
+    "late": (0, 8),
+    "ahead": (1, 16),
+    "room": (1, 8),
+    "wait": (1, 20),
+}
+
+
+def check_number(word, number):
+    """Refuse a number that what this word names cannot be."""
+    least, most = BOUNDS[word]
+    if number < least or number > most:
+        raise BadSetting(word)
 
 
 def check_setting(setting):
     """Refuse a setting that cannot be, by the first of its numbers that is wrong."""
-    for (word, least, most), number in zip(BOUNDS, setting):
-        if number < least or number > most:
-            raise BadSetting(word)
+    marks, wide, late, ahead = setting
+    check_number("marks", marks)
+    check_number("wide", wide)
+    check_number("late", late)
+    check_number("ahead", ahead)
 
 
 def check_mark(mark, marks):

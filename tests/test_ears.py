@@ -6,6 +6,7 @@ import unittest
 
 from ackbits.ears import Ear
 from ackbits.errors import BadBits
+from plain import PlainEar
 
 AGAIN, OLD, NEW = "again", "old", "new"
 
@@ -185,33 +186,6 @@ class TellTest(unittest.TestCase):
         self.assertEqual(ear.last(), 4)
         ear.come(2)
         self.assertEqual(ear.last(), 4)
-
-
-class PlainEar:
-    """Point [3] word by word: every number that came as new is kept, and counted up to."""
-
-    def __init__(self, setting):
-        self.marks, self.wide, self.late, _ = setting
-        self.news = []
-
-    def last(self):
-        return max(self.news, default=-1)
-
-    def come(self, mark):
-        last = self.last()
-        for number in itertools.count():
-            if number % self.marks == mark and number >= last - self.late:
-                break
-        if number in self.news and number >= last - self.wide:
-            return (number, AGAIN)
-        if number < last - self.wide:
-            return (number, OLD)
-        self.news.append(number)
-        return (number, NEW)
-
-    def tell(self):
-        last = self.last()
-        return (last % self.marks, tuple(int(last - k in self.news) for k in range(1, self.wide + 1)))
 
 
 class ManyEarsTest(unittest.TestCase):

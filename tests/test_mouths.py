@@ -6,6 +6,7 @@ import unittest
 
 from ackbits.errors import BadBits, Full
 from ackbits.mouths import Mouth
+from plain import PlainMouth
 
 
 def mouth_after(setting, many):
@@ -184,30 +185,6 @@ class NeverSentTest(unittest.TestCase):
         self.assertEqual(mouth.hear((1, (1, 0, 0))), [1])
 
 
-class PlainMouth:
-    """Points [4] and [5] word by word: numbers are looked for one by one."""
-
-    def __init__(self, setting):
-        self.marks, self.wide, _, self.ahead = setting
-        self.sent = []
-        self.known = set()
-
-    def is_full(self):
-        return len(self.sent) - max(self.known, default=-1) > self.ahead
-
-    def hear(self, told):
-        mark, bits = told
-        newest = [number for number in self.sent if number % self.marks == mark][-1:]
-        if not newest:
-            return None
-        numbers = newest + [newest[0] - at - 1 for at in range(self.wide) if bits[at]]
-        if not set(numbers) <= set(self.sent):
-            return None
-        fresh = sorted(set(numbers) - self.known)
-        self.known |= set(numbers)
-        return fresh
-
-
 class ManyMouthsTest(unittest.TestCase):
     def told(self, dice, plain):
         """A telling that mostly speaks of numbers that were sent."""
@@ -229,9 +206,7 @@ class ManyMouthsTest(unittest.TestCase):
             mouth, plain = Mouth(setting), PlainMouth(setting)
             for _ in range(60):
                 if dice.randrange(2) and not plain.is_full():
-                    plain.sent.append(len(plain.sent))
-                    number = plain.sent[-1]
-                    self.assertEqual(mouth.send(), (number, number % marks))
+                    self.assertEqual(mouth.send(), plain.send())
                 else:
                     self.hear_both(mouth, plain, self.told(dice, plain))
                 expected = (sorted(plain.known), len(plain.sent) - 1, plain.is_full())

@@ -1,4 +1,4 @@
-"""Point [2]: settings, marks and tellings, as Ear and Mouth take and refuse them."""
+"""Point [2]: settings, marks and tellings, as all that is handed one takes and refuses them."""
 
 import itertools
 import unittest
@@ -6,12 +6,42 @@ import unittest
 from ackbits.ears import Ear
 from ackbits.errors import BadBits, BadMark, BadSetting
 from ackbits.mouths import Mouth
+from ackbits.notes import read, written
+from ackbits.worlds import fewest, judged, played
 
 WORDS = ("marks", "wide", "late", "ahead")
 LEAST = (2, 0, 0, 1)
 MOST = (64, 16, 8, 16)
 MIDDLE = (8, 4, 2, 4)
-ENDS = (Ear, Mouth)
+
+
+def play(setting):
+    return played(setting, [("send",), ("come", 0), ("tell",)])
+
+
+def write(setting):
+    return written(setting, (0, (0,) * setting[1]))
+
+
+def read_again(setting):
+    return read(setting, "0 " + ("0" * setting[1] or "-"))
+
+
+def judge_by_fewest(setting):
+    return fewest(setting[2], setting[3])
+
+
+# All that is handed a setting, where nothing else is wrong, and where all else is.
+ENDS = (Ear, Mouth, play, judged, write, read_again)
+WRONG_ENDS = (
+    lambda setting: played(setting, [()]),
+    lambda setting: played(setting, [("come", 0)] * 401),
+    lambda setting: written(setting, (-1, (2,) * 40)),
+    lambda setting: written(setting, (0, (2,) * 40)),
+    lambda setting: read(setting, ""),
+    lambda setting: read(setting, "99 " + "1" * 40),
+    lambda setting: read(setting, "0 " + "1" * 40),
+)
 
 
 def refused_word(end, setting):
@@ -42,12 +72,27 @@ class SettingTest(unittest.TestCase):
             self.assertIsNone(refused_word(end, setting), setting)
 
     def test_the_first_wrong_number_is_the_word(self):
-        for end, wrong in itertools.product(ENDS, itertools.product((0, -1, 1), repeat=4)):
+        for end, (setting, words) in itertools.product(ENDS, self.partly_wrong()):
+            self.assertEqual(refused_word(end, setting), words[0] if words else None, setting)
+
+    def test_settings_are_refused_ahead_of_all_else(self):
+        for end, (setting, words) in itertools.product(WRONG_ENDS, self.partly_wrong()):
+            if words:
+                self.assertEqual(refused_word(end, setting), words[0], setting)
+
+    def test_late_and_ahead_without_a_setting(self):
+        for setting, words in self.partly_wrong():
+            words = [word for word in words if word in ("late", "ahead")]
+            expected = words[0] if words else None
+            self.assertEqual(refused_word(judge_by_fewest, setting), expected, setting)
+
+    def partly_wrong(self):
+        """Settings with any of their numbers too small or too great, and the words of these."""
+        for wrong in itertools.product((0, -1, 1), repeat=4):
             setting = tuple(
                 {0: MIDDLE[at], -1: LEAST[at] - 1, 1: MOST[at] + 1}[wrong[at]] for at in range(4)
             )
-            words = [WORDS[at] for at in range(4) if wrong[at]]
-            self.assertEqual(refused_word(end, setting), words[0] if words else None, setting)
+            yield setting, [WORDS[at] for at in range(4) if wrong[at]]
 
     def test_settings_that_are_not_safe_are_settings_too(self):
         for end in ENDS:
